@@ -1,1 +1,1 @@
-"""Jamroad: cars on a road, all stepping at once into the next place where it is free."""
+"""Jamroad: cars on a road and on a ring, all stepping at once into the next place where it is free."""

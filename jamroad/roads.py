@@ -26,6 +26,12 @@ def free_from(cars):
     return [by - car for car, by in enumerate(holders(cars, len(cars)))]
 
 
+# How near a car with one in front of it would come to that one, if it moved at each step: only a stay of that
+# one brings it a place nearer. At 1 or less it does touch, and stays; else it comes just so near.
+def nearest(cars, car):
+    return cars[car + 1] - delays(cars)[car + 1] - cars[car]
+
+
 # How far a car is let by one that is not behind it. Two for each car between: it fills a place,
 # and it is a step later that the next one can follow.
 def let_to(cars, car, by, steps):

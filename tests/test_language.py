@@ -36,6 +36,10 @@ WORDS = re.compile(
     r"\b(type|typing|typing_extensions|enum|Enum|IntEnum|StrEnum|Flag|IntFlag|Generic|Protocol|ABC|ABCMeta|namedtuple"
     r"|NamedTuple|TypedDict|TYPE_CHECKING|abstractmethod)\b|dataclass|overload|contextmanager"
 )
+# L26: what Python's own values have is no name for a value of an object, but for these.
+TAKEN_FIELDS = {
+    name for kind in (str, int, list, tuple, dict, set, bytes) for name in dir(kind)
+} - set("count index title find get join lower upper split strip copy add".split()) | {"args", "sort"}
 
 
 def sources():
@@ -103,7 +107,8 @@ class Language(unittest.TestCase):
         for path, tree in trees():
             for name in bound_names(tree):
                 self.assertRegex(name, r"\A([A-Za-z][A-Za-z0-9_]*|__(init|eq|repr|str|len)__)\Z", path)
-                self.assertFalse(hasattr(builtins, name), (path, name))
+                if not name.startswith("__"):
+                    self.assertFalse(hasattr(builtins, name), (path, name))
             for node in ast.walk(tree):
                 if isinstance(node, ast.Name) and hasattr(builtins, node.id):
                     self.assertIn(node.id, BUILTIN_NAMES, path)
@@ -119,6 +124,63 @@ class Language(unittest.TestCase):
             for node in ast.walk(tree):
                 if isinstance(node, ast.Call) and isinstance(node.func, ast.Attribute):
                     self.assertIn(node.func.attr, METHODS | own, path)
+
+    def test_fields_and_methods_are_called_differently(self):
+        fields = set()
+        methods = set()
+        for path, tree in trees():
+            for node in ast.walk(tree):
+                if isinstance(node, ast.Attribute) and isinstance(node.ctx, ast.Store):
+                    fields.add(node.attr)
+                if isinstance(node, ast.ClassDef):
+                    names = [method.name for method in node.body if isinstance(method, ast.FunctionDef)]
+                    self.assertEqual(len(names), len(set(names)), (path, node.name))
+                    methods.update(names)
+        self.assertEqual(fields & methods, set())
+        self.assertEqual(fields & TAKEN_FIELDS, set())
+        for name in fields:
+            self.assertRegex(name, r"\A[A-Za-z][A-Za-z0-9_]*\Z")
+
+    def test_no_local_is_called_like_an_import_or_a_class(self):
+        for path, tree in trees():
+            top = {alias.name for node in tree.body if isinstance(node, ast.ImportFrom) for alias in node.names}
+            top |= {node.name for node in tree.body if isinstance(node, ast.ClassDef)}
+            for node in ast.walk(tree):
+                if isinstance(node, ast.arg):
+                    self.assertNotIn(node.arg, top, path)
+                if isinstance(node, ast.Name) and isinstance(node.ctx, ast.Store):
+                    self.assertNotIn(node.id, top, path)
+
+    def test_names_are_drawn_from_the_file_that_defines_them(self):
+        defined = {
+            "jamroad." + path.stem: {node.name for node in tree.body if isinstance(node, (ast.FunctionDef, ast.ClassDef))}
+            for path, tree in trees()
+        }
+        for path, tree in trees():
+            for node in ast.walk(tree):
+                if isinstance(node, ast.ImportFrom):
+                    for alias in node.names:
+                        self.assertIn(alias.name, defined[node.module], path)
+
+    def test_no_two_files_draw_from_one_another(self):
+        draws = {
+            "jamroad." + path.stem: [node.module for node in tree.body if isinstance(node, ast.ImportFrom)]
+            for path, tree in trees()
+        }
+        while draws:
+            free = [name for name, others in draws.items() if not any(other in draws for other in others)]
+            self.assertNotEqual(free, [], draws)
+            for name in free:
+                draws.pop(name)
+
+    def test_is_stands_beside_none_true_and_false_alone(self):
+        for path, tree in trees():
+            for node in ast.walk(tree):
+                if isinstance(node, ast.Compare):
+                    for operator, right in zip(node.ops, node.comparators):
+                        if isinstance(operator, (ast.Is, ast.IsNot)):
+                            self.assertIsInstance(right, ast.Constant, path)
+                            self.assertIn(right.value, (None, True, False), path)
 
 
 if __name__ == "__main__":

@@ -1,21 +1,10 @@
 """stepped, after, delays and free_from, held against stepping car by car as point [1] tells it."""
 
-import itertools
 import unittest
 
+from by_hand import HUGE, HUGER, NO_CARS, NO_STEPS, WIDE_ROADS, run_by_hand, small_roads, step_by_hand
 from jamroad.errors import BadCars, BadSteps
 from jamroad.roads import after, delays, free_from, stepped
-
-
-def step_by_hand(cars):
-    taken = set(cars)
-    return [place if place + 1 in taken else place + 1 for place in cars]
-
-
-def run_by_hand(cars, steps):
-    for step in range(steps):
-        cars = step_by_hand(cars)
-    return cars
 
 
 def stays_by_hand(cars, steps):
@@ -28,42 +17,6 @@ def stays_by_hand(cars, steps):
                 stays[car].append(step)
         cars = moved
     return stays
-
-
-def small_roads():
-    """Every choice of places out of nine, some of which are less than 0."""
-    places = range(-4, 5)
-    for count in range(len(places) + 1):
-        for cars in itertools.combinations(places, count):
-            yield list(cars)
-
-
-def spaced(first, gaps):
-    return list(itertools.accumulate(gaps, initial=first))
-
-
-HUGE = 10 ** 60
-# Longer than Python is willing to write out.
-HUGER = 10 ** 6000
-
-WIDE_ROADS = [
-    [],
-    [0],
-    [-7],
-    [HUGE],
-    [-HUGE, 0, HUGE],
-    [HUGE, HUGE + 1, HUGE + 2, HUGE + 4],
-    [-HUGE - 1, -HUGE, -HUGE + 1, -3, -2, -1, 0, 1],
-    list(range(-20, 20)),
-    list(range(0, 80, 2)),
-    list(range(0, 120, 3)),
-    spaced(0, [1] * 10 + [100] + [1] * 10),
-    spaced(0, [3] * 8 + [1] * 8 + [2] * 8 + [1] * 4),
-    spaced(-50, [1, 1, 4] * 12),
-    spaced(5, [1 + (k * k * 7) % 4 for k in range(45)]),
-    spaced(-5, [1 + (k * k * k + k // 3) % 3 for k in range(45)]),
-    spaced(-5, [1 + (k * 5 % 13) // 6 for k in range(60)]),
-]
 
 
 class Stepped(unittest.TestCase):
@@ -228,26 +181,6 @@ class NothingKeptOrChanged(unittest.TestCase):
             handed[:] = [5, 50]
             self.assertEqual(told, expected, name)
             self.assertEqual(ask(handed), ask([5, 50]), name)
-
-
-NO_WHOLE_NUMBERS = [
-    True, False, None, 0.0, 1.0, 2.5, float("inf"), float("nan"), 1j, "", "0", "1", b"1", [], [1], (), (1,), {}, {1: 1},
-    set(), {1}, range(2), object(), int, len,
-]
-
-NO_CARS = [
-    (), (0,), (0, 1), {}, {0: 0}, set(), {0, 1}, range(3), "", "c.", "01", b"01", bytearray(b"01"), 0, 7, -1, 1.5,
-    True, False, None, object(), list, iter([0, 1]), (place for place in [0, 1]),
-    [0, 0], [1, 0], [0, 1, 1], [0, 2, 1], [0, 0, 1], [5, 4, 3], [-1, -2], [0, 1, 2, 3, 2], [HUGER, HUGER], [0, -HUGER],
-    [False, 1], [0, True], [True], [False], [-1, False, True], [True, 2, 3], [-1, 0, True],
-    *[[value] for value in NO_WHOLE_NUMBERS],
-    *[[-5, value] for value in NO_WHOLE_NUMBERS],
-    *[[value, 5] for value in NO_WHOLE_NUMBERS],
-    *[[-5, value, 5] for value in NO_WHOLE_NUMBERS],
-    *[[1, 0, value] for value in NO_WHOLE_NUMBERS],
-]
-
-NO_STEPS = [-1, -2, -HUGE, -HUGER, *NO_WHOLE_NUMBERS]
 
 
 class Refusals(unittest.TestCase):
